@@ -1,0 +1,1 @@
+"""Costorder: who pays for a quarrel at court, in parts, through all its rounds."""
