@@ -1,4 +1,4 @@
-"""The package's files keep to those rules of LANGUAGE.md that can be read off a file by itself."""
+"""The package's files keep to those rules of LANGUAGE.md that can be read off their text with little work."""
 
 import ast
 import builtins
@@ -83,6 +83,14 @@ def node_faults(tree):
         if isinstance(node, ast.ImportFrom) and (node.level or not node.module.startswith("costorder.")
                                                  or node not in tree.body):
             yield f"L2, L16: {where} draws from elsewhere"
+        if isinstance(node, ast.ListComp) and (len(node.generators) > 1 or len(node.generators[0].ifs) > 1):
+            yield f"L7: {where} has a comprehension with more than one for or if"
+        if isinstance(node, ast.FormattedValue) and (not isinstance(node.value, ast.Name) or node.format_spec):
+            yield f"L7: {where} has more than a name in the braces"
+        if isinstance(node, ast.Compare):
+            for sign, value in zip(node.ops, node.comparators):
+                if isinstance(sign, (ast.Is, ast.IsNot)) and ast.unparse(value) not in ("None", "True", "False"):
+                    yield f"L20: {where} has an is beside another value"
 
 
 def name_faults(tree, methods):
@@ -103,6 +111,54 @@ def name_faults(tree, methods):
                 yield f"L25: {node.func.attr} in row {node.lineno}"
 
 
+def top_names(tree):
+    """The names that a file itself binds at its top."""
+    for node in tree.body:
+        if isinstance(node, (ast.FunctionDef, ast.ClassDef)):
+            yield node.name
+        elif isinstance(node, ast.Assign):
+            yield node.targets[0].id
+
+
+def drawn_from(tree):
+    return [(node.module.removeprefix("costorder."), [name.name for name in node.names])
+            for node in tree.body if isinstance(node, ast.ImportFrom)]
+
+
+def in_a_ring(files, first):
+    """Whether a file draws from itself, in whatever many steps."""
+    seen, waiting = set(), [first]
+    while waiting:
+        for module, names in drawn_from(files[waiting.pop()]):
+            if module == first:
+                return True
+            if module not in seen:
+                seen.add(module)
+                waiting.append(module)
+    return False
+
+
+def package_faults(files):
+    for name, tree in files.items():
+        bound = list(top_names(tree))
+        if len(set(bound)) < len(bound):
+            yield f"L15: {name} binds a name twice"
+        if in_a_ring(files, name):
+            yield f"L16: {name} draws from itself"
+        for module, names in drawn_from(tree):
+            if not set(names) <= set(top_names(files[module])):
+                yield f"L16: {name} draws from {module} what is not defined there"
+    methods, values = set(), set()
+    for tree in files.values():
+        for node in ast.walk(tree):
+            if isinstance(node, ast.ClassDef):
+                methods |= {part.name for part in node.body if isinstance(part, ast.FunctionDef)}
+            if isinstance(node, ast.Attribute) and isinstance(node.ctx, ast.Store):
+                values.add(node.attr)
+    for name in sorted(methods & values):
+        yield f"L18: {name} is a method and a value"
+
+
 class Language(unittest.TestCase):
     def test_the_files(self):
         for path in PACKAGE.iterdir():
@@ -118,6 +174,7 @@ class Language(unittest.TestCase):
             with self.subTest(path.name):
                 found = list(row_faults(path.read_text(encoding="utf-8"))) + list(node_faults(tree))
                 self.assertEqual(found + list(name_faults(tree, methods)), [])
+        self.assertEqual(list(package_faults({path.stem: tree for path, tree in trees.items()})), [])
 
 
 if __name__ == "__main__":
