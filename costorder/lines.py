@@ -4,12 +4,17 @@ from costorder.fees import cost_of
 from costorder.parts import asked_of, losses, share
 from costorder.rows import DAY, NUMBER, OFFER_AMOUNT, OFFER_CLAIM, RULE_BACK, RULE_WINS
 from costorder.rows import STEP_KIND, STEP_LAID, STEP_MANY, STEP_SIDE, TURN, WORD
-from costorder.rows import claims_of, over_of, put_row, rounds_of, worth_of
+from costorder.rows import claims_of, over_of, put_row, rounds_of, rows_until, worth_of
+
+# The places within a line; the round and the cost stand between the row's number and the reason.
+LINE_ROW = 0
+LINE_REASON = 3
+LINE_PARTS = 4
 
 
 def lines_of(many, court, speakers, rows, day):
     # `rows` are the rows kept of a book with `many` sides.
-    told = [row for row in rows if row[DAY] <= day]
+    told = rows_until(rows, day)
     costs = costs_of(told, court, speakers)
     rounds = rounds_of(told)
     wins = [wins_of(told, rounds, turn) for turn in range(over_of(rounds))]
@@ -55,6 +60,16 @@ def wins_of(rows, rounds, turn):
             for claim in rounds[row[TURN]]:
                 wins[claim[0]] = named.get(claim[0], 0)
     return [wins[claim[0]] for claim in rounds[turn]]
+
+
+def won_on(rows, turn, number, day):
+    # What a claim has won in a round by that day; 0 while the round is not over, when no offer can turn it yet.
+    told = rows_until(rows, day)
+    rounds = rounds_of(told)
+    if turn >= over_of(rounds):
+        return 0
+    numbers = [claim[0] for claim in rounds[turn]]
+    return dict(zip(numbers, wins_of(told, rounds, turn))).get(number, 0)
 
 
 def offers_of(rows):

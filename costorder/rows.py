@@ -120,17 +120,35 @@ def worth_of(claims):
     return sum([claim[WORTH] for claim in claims])
 
 
+def rows_until(rows, day):
+    return [row for row in rows if row[DAY] <= day]
+
+
 def check_row(rows, written, row):
     # Raises the first refusal that is due where the row is to come behind the rows kept; `written` counts all rows that
     # the book has, the undone ones too.
-    rounds = rounds_of(rows)
+    check_next(rounds_of(rows), rows[-1] if rows != [] else None, written, row)
+
+
+def check_anew(rows):
+    # Raises the first refusal that is due where the rows are written in their order into a book without rows.
+    rounds = [[]]
+    last = None
+    for written, row in enumerate(rows):
+        check_next(rounds, last, written, row)
+        put_row(rounds, row)
+        last = row
+
+
+def check_next(rounds, last, written, row):
+    # `last` is the last row kept, or None where there is none.
     if written >= MOST_ROWS:
         raise Full("full")
     if lacks_claim(rounds, row):
         raise NoClaim("no such claim")
     if meets_over(rounds, row):
         raise RoundOver("round over")
-    if rows != [] and row[DAY] < rows[-1][DAY]:
+    if last is not None and row[DAY] < last[DAY]:
         raise TooLate("too late")
     if comes_twice(rounds, row):
         raise Twice("twice")

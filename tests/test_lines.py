@@ -3,13 +3,8 @@
 import random
 import unittest
 
-from costorder.fees import cost_of
-from costorder.lines import lines_of
-from costorder.parts import share
-from writing import Stand, all_due, chance_deed, row_of, write
-
-COURT = [(100, 20), (1000, 45), (5000, 90)]
-SPEAKERS = [(100, 31), (1000, 70)]
+from costorder.lines import lines_of, won_on
+from writing import COURT, SPEAKERS, Stand, all_due, chance_deed, line_by_hand, row_of, won_by_hand, write
 
 LAST = 6000
 
@@ -366,39 +361,21 @@ class Offers(unittest.TestCase):
         self.assertEqual(lines_of(3, COURT, SPEAKERS, more, LAST)[0][3:], ("offer", (110, 0, 30)))
 
 
-def won_by_hand(deeds, turn, claim):
-    """Point 22: the own ruling's word, but the latest later ruling's that looks back and has the claim in its round."""
-    stand = Stand(deeds)
-    word = None
-    for later in (0, 1, 2):
-        for deed in deeds:
-            if deed[0] == "rule" and deed[2] == later and claim in stand.of(later):
-                if later == turn or (later > turn and deed[4]):
-                    word = sum(won for number, won in deed[3] if number == claim)
-    return word
+class Won(unittest.TestCase):
+    def test_nothing_before_the_ruling_s_day(self):
+        kept = write(TWO + [("rule", 9, 0, [(0, 60)], False)])
+        self.assertEqual([won_on(kept, 0, 0, day) for day in (2, 3, 8, 9, 10)], [0, 0, 0, 60, 60])
+        self.assertEqual(won_on(kept, 0, 7, 9), 0)
 
+    def test_by_the_later_word_from_its_day_on(self):
+        kept = write(TWO + [("rule", 5, 0, [(0, 60), (7, 10)], False), ("carry", 6, 0), ("rule", 7, 1, [(0, 61)], True)])
+        self.assertEqual([won_on(kept, 0, 0, day) for day in (5, 6, 7)], [60, 60, 61])
+        self.assertEqual([won_on(kept, 1, 0, day) for day in (5, 6, 7)], [0, 0, 61])
+        self.assertEqual([won_on(kept, 0, 7, day) for day in (5, 6, 7)], [10, 10, 10])
 
-def line_by_hand(deeds, number, sides):
-    """Points 12 and 21 to 23 on one step, claim by claim; `deeds` are those of the day, in their order."""
-    word, day, turn, side, kind, many, laid = deeds[number]
-    cost = cost_of(kind, many, Stand(deeds[:number]).worth(turn), COURT, SPEAKERS)
-    alone = tuple(cost if each == side else 0 for each in range(sides))
-    stand = Stand(deeds)
-    if laid in ("late", "much"):
-        return (number, turn, cost, laid, alone)
-    if turn not in stand.over:
-        return (number, turn, cost, "open", alone)
-    lost, asked, reason = [0] * sides, [0] * sides, "parts"
-    for claim, (asker, answerer, worth) in stand.of(turn).items():
-        won = won_by_hand(deeds, turn, claim)
-        good = [deed for deed in deeds if deed[0] == "offer" and deed[2] == turn and deed[3] == claim
-                and deed[1] <= day and deed[4] >= won]
-        if won > 0 and good:
-            won, reason = 0, "offer"
-        lost[asker] += worth - won
-        lost[answerer] += won
-        asked[asker] += worth
-    return (number, turn, cost, reason, tuple(share(cost, lost, asked)))
+    def test_a_claim_that_is_not_there(self):
+        kept = write(TWO + [("rule", 9, 0, [(0, 60)], False)])
+        self.assertEqual([won_on(kept, turn, claim, 9) for turn, claim in ((0, 1), (1, 0), (2, 0), (3, 0))], [0] * 4)
 
 
 class ByChance(unittest.TestCase):
@@ -425,6 +402,9 @@ class ByChance(unittest.TestCase):
                 told = lines_of(sides, COURT, SPEAKERS, kept, day)
                 steps = [number for number, deed in enumerate(until) if deed[0] == "step"]
                 self.assertEqual(told, [line_by_hand(until, number, sides) for number in steps], deeds)
+                for turn, claim in [(turn, claim) for turn in (0, 1, 2) for claim in Stand(until).of(turn)]:
+                    won = won_by_hand(until, turn, claim) if turn in Stand(until).over else 0
+                    self.assertEqual(won_on(kept, turn, claim, day), won)
                 for row, turn, cost, reason, parts in told:
                     self.assertEqual(sum(parts), cost)
                     seen[(turn, reason)] = True

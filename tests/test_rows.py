@@ -131,6 +131,41 @@ class Rounds(unittest.TestCase):
         self.assertEqual(rows.rounds_of(kept)[0], [(0, 0, 1, 100), (7, 2, 0, 40)])
 
 
+class RowsAlone(unittest.TestCase):
+    """Rows of a day, and rows written anew into a book without rows (points 17 and 20)."""
+
+    def anew(self, kept):
+        try:
+            rows.check_anew(kept)
+        except ValueError as error:
+            return str(error)
+        return None
+
+    def test_rows_until_a_day(self):
+        kept = write(SECOND)
+        self.assertEqual([len(rows.rows_until(kept, day)) for day in (2, 3, 4, 5, 6, 9)], [0, 2, 2, 3, 4, 4])
+        self.assertEqual(rows.rows_until(kept, 5), kept[:3])
+
+    def test_rows_that_were_taken_are_taken_anew(self):
+        for deeds in ([], TWO, SECOND, ALL_OVER):
+            self.assertIsNone(self.anew(write(deeds)))
+            self.assertIsNone(self.anew(write(deeds, 41)))
+
+    def test_each_row_is_looked_at_behind_those_before_it(self):
+        kept = write(ALL_OVER)
+        without = [self.anew(kept[:place] + kept[place + 1:]) for place in range(len(kept))]
+        self.assertEqual(without, ["no such claim", "no such claim", "no such claim", "no such claim", "twice",
+                                   "no such claim", None])
+
+    def test_their_number_is_counted_anew(self):
+        pays = [row_of(number, ("pay", 0, 0, 0, 1)) for number in range(301)]
+        self.assertIsNone(self.anew(pays[1:]))
+        self.assertEqual(self.anew(pays), "full")
+
+    def test_their_days_must_not_fall(self):
+        self.assertEqual(self.anew([row_of(0, ("dun", 5, 0)), row_of(1, ("dun", 4, 0))]), "too late")
+
+
 class Refusals(unittest.TestCase):
     def taken(self, deeds, deed):
         self.assertIsNone(refusal_of(write(deeds), len(deeds), deed), deed)
